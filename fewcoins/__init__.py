@@ -1,0 +1,1 @@
+"""Few coins: many coins out of a seed of few numbers."""
