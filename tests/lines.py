@@ -10,6 +10,8 @@ HIGHEST = 2147483647
 PLAIN = [(m, k) for m in range(1, 7) for k in range(1, 11) if m * k <= 10]
 # Every m that a begin takes, faint coins.
 FAINT = [1, 2, 3, 4]
+# Every m, k and f that a begin takes.
+KINDS = [(m, k, 0) for m, k in PLAIN] + [(m, 2, 1) for m in FAINT]
 
 
 def row_of(numbers):
@@ -46,6 +48,56 @@ def odds(coins):
 
 def term_all(w, lie):
     return [7, w] + row_of(lie)
+
+
+def term_many(w, t, coins):
+    return [8, w, t] + row_of(coins)
+
+
+def drop(j):
+    return [9, j]
+
+
+def want(v):
+    return [10, v]
+
+
+def means():
+    return [11]
+
+
+def worth(s):
+    return [12, s]
+
+
+def best():
+    return [13]
+
+
+def chances(j):
+    return [14, j]
+
+
+def size():
+    return [15]
+
+
+def call_of(term):
+    """The call that makes this term: ("all", w, lie) or ("many", w, t, coins)."""
+    return term_all(*term[1:]) if term[0] == "all" else term_many(*term[1:])
+
+
+def calls_of(terms):
+    return [call_of(term) for term in terms]
+
+
+def drawn_term(draw, coins, most):
+    """A term that looks at no more coins than most."""
+    chosen = sorted(draw.sample(range(coins), draw.randrange(1, min(most, coins, 20) + 1)))
+    w = draw.randrange(-100, 101)
+    if draw.random() < 0.5:
+        return ("all", w, [2 * i + draw.randrange(2) for i in chosen])
+    return ("many", w, draw.randrange(0, len(chosen) + 2), chosen)
 
 
 def joined(calls):

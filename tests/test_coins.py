@@ -1,9 +1,7 @@
 import unittest
 
 from tests import plain
-from tests.lines import FAINT, HIGHEST, LOWEST, PLAIN, ask_after, ask_many, begin, coin, row
-
-KINDS = [(m, k, 0) for m, k in PLAIN] + [(m, 2, 1) for m in FAINT]
+from tests.lines import HIGHEST, KINDS, LOWEST, ask_after, ask_many, begin, coin, row
 
 
 class CoinTest(unittest.TestCase):

@@ -3,6 +3,7 @@
 import ast
 import inspect
 import os
+import re
 import subprocess
 import sys
 import unittest
@@ -21,6 +22,14 @@ NODES = (ast.Module, ast.FunctionDef, ast.ClassDef, ast.arguments, ast.arg, ast.
          ast.Call, ast.Name, ast.Constant, ast.List, ast.Tuple, ast.Dict, ast.Attribute, ast.Subscript, ast.Slice,
          ast.BinOp, ast.UnaryOp, ast.BoolOp, ast.Compare, ast.IfExp, ast.ListComp, ast.comprehension,
          ast.expr_context, ast.operator, ast.unaryop, ast.boolop, ast.cmpop)
+# Words that stand nowhere in a file, in remarks and texts either.
+OUT_WORDS = ("type typing typing_extensions enum Enum IntEnum StrEnum Flag IntFlag Generic Protocol ABC ABCMeta "
+             "namedtuple NamedTuple TypedDict TYPE_CHECKING abstractmethod").split()
+OUT_PARTS = ("dataclass", "overload", "contextmanager")
+OUT_NAMES = {"register", "mro", "elements", "open", "input", "version_info", "with_traceback", "add_note"}
+# What is walked on the spot, and what it may stand in as the first thing.
+WALKED = {"zip", "enumerate", "reversed", "range"}
+WALKERS = {"list", "tuple", "dict", "sorted", "sum", "any", "all", "enumerate", "zip", "min", "max"}
 
 
 def package_files():
@@ -38,6 +47,29 @@ def trees():
 
 def nodes(kind):
     return [(name, node) for name, tree in trees() for node in ast.walk(tree) if isinstance(node, kind)]
+
+
+def is_call(node, names):
+    return isinstance(node, ast.Call) and isinstance(node.func, ast.Name) and node.func.id in names
+
+
+def methods(tree):
+    classes = [node for node in tree.body if isinstance(node, ast.ClassDef)]
+    return [node.name for each in classes for node in each.body]
+
+
+def stored_values(tree):
+    return [node.attr for node in ast.walk(tree) if isinstance(node, ast.Attribute) and isinstance(node.ctx, ast.Store)]
+
+
+def top_names(tree):
+    defs = [node.name for node in tree.body if isinstance(node, (ast.FunctionDef, ast.ClassDef))]
+    return defs + [node.targets[0].id for node in tree.body if isinstance(node, ast.Assign)]
+
+
+def drawn_from(tree):
+    rows = [node for node in tree.body if isinstance(node, ast.ImportFrom)]
+    return [(row.module.split(".")[1] + ".py", each.name) for row in rows for each in row.names]
 
 
 class FormTest(unittest.TestCase):
@@ -90,6 +122,70 @@ class FormTest(unittest.TestCase):
         foreign = {word for kind in (int, str, list, tuple, dict, set, bytes) for word in vars(kind)} - OWN_METHODS
         for name, node in nodes(ast.Attribute):
             self.assertNotIn(node.attr, foreign, name)
+
+    def test_statements_by_themselves_are_calls(self):
+        for name, tree in trees():
+            for node in ast.walk(tree):
+                if isinstance(node, ast.Expr) and node != tree.body[0]:
+                    self.assertIsInstance(node.value, ast.Call, (name, node.lineno))
+
+    def test_words_that_are_out(self):
+        for name in package_files():
+            text = text_of(name)
+            words = set(re.findall(r"[A-Za-z0-9_]+", text))
+            self.assertEqual(words & (set(OUT_WORDS) | OUT_NAMES), set(), name)
+            self.assertEqual([part for part in OUT_PARTS if part in text], [], name)
+
+    def test_is_stands_beside_none_true_and_false(self):
+        for name, node in nodes(ast.Compare):
+            if any(isinstance(each, (ast.Is, ast.IsNot)) for each in node.ops):
+                beside = [node.left] + node.comparators
+                self.assertTrue(any(isinstance(each, ast.Constant) and each.value in (None, True, False)
+                                    for each in beside), (name, node.lineno))
+
+    def test_no_name_is_a_method_and_a_value(self):
+        found = trees()
+        calls = {word for name, tree in found for word in methods(tree)}
+        values = {word for name, tree in found for word in stored_values(tree)}
+        self.assertEqual(calls & values, set())
+
+    def test_each_name_once_and_from_the_file_that_defines_it(self):
+        found = dict(trees())
+        for name, tree in found.items():
+            names = top_names(tree) + [word for file, word in drawn_from(tree)]
+            self.assertEqual(len(names), len(set(names)), name)
+            for file, word in drawn_from(tree):
+                self.assertIn(word, top_names(found[file]), name)
+
+    def test_no_two_files_draw_from_one_another(self):
+        left = {name: {file for file, word in drawn_from(tree)} for name, tree in trees()}
+        while left:
+            free = [name for name in left if not left[name] & set(left)]
+            self.assertTrue(free, left)
+            left = {name: left[name] for name in left if name not in free}
+
+    def test_locals_are_not_called_like_classes_and_imports(self):
+        for name, tree in trees():
+            taken = {word for file, word in drawn_from(tree)} | set(top_names(tree))
+            for each in [node for node in ast.walk(tree) if isinstance(node, ast.FunctionDef)]:
+                for node in ast.walk(each):
+                    if isinstance(node, ast.arg) or (isinstance(node, ast.Name) and isinstance(node.ctx, ast.Store)):
+                        self.assertNotIn(node.arg if isinstance(node, ast.arg) else node.id, taken, (name, node.lineno))
+
+    def test_walked_on_the_spot(self):
+        for name, tree in trees():
+            walks = [node.iter for node in ast.walk(tree) if isinstance(node, (ast.For, ast.comprehension))]
+            walks += [node.args[0] for node in ast.walk(tree) if is_call(node, WALKERS) and node.args]
+            for node in ast.walk(tree):
+                if is_call(node, WALKED):
+                    self.assertIn(node, walks, (name, node.lineno))
+
+    def test_sets_are_not_kept(self):
+        for name, tree in trees():
+            inside = [node.args[0] for node in ast.walk(tree) if is_call(node, {"len", "sorted"})]
+            for node in ast.walk(tree):
+                if is_call(node, {"set", "frozenset"}):
+                    self.assertIn(node, inside, (name, node.lineno))
 
     def test_importing_draws_in_nothing_else(self):
         script = ("import sys; before = set(sys.modules); import fewcoins.seeds; "

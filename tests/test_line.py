@@ -4,21 +4,23 @@ import random
 import unittest
 
 from fewcoins.seeds import answers
-from tests import plain
-from tests.lines import (HIGHEST, LOWEST, ask, begin, coin, count, joined, mul, odds, power, row, row_of, split,
-                         term_all)
+from tests.lines import (HIGHEST, LOWEST, ask, begin, best, chances, coin, count, drop, joined, means, mul, odds, power,
+                         row, size, split, term_all, term_many, want, worth)
+from tests.model import Model
 
-# One call of each kind but begin, good or wrong in many ways.
+# Calls of each kind but begin, good or wrong in many ways.
 OTHERS = [mul(1, 1), mul(-1, 1), power(1, 1), power(1, 101), coin(0, 0), coin(-1, 0), row(0), row(HIGHEST),
           count([0], [0]), count([], []), count([1, 0], [0]), odds([0]), odds([]), odds([LOWEST]), term_all(1, [0]),
-          term_all(101, []), [8, 1, 0] + row_of([0]), [8, 101, -1] + row_of([]), [9, 0], [10, 0], [10, 2], [11],
-          [12, 0], [12, -1], [13], [14, 0], [15]]
+          term_all(101, []), term_many(1, 0, [0]), term_many(101, -1, []), term_many(1, 1, [1, 0]), drop(0), drop(-1),
+          want(0), want(1), want(2), means(), worth(0), worth(-1), best(), chances(0), chances(HIGHEST), size()]
 
-MIXED = joined([mul(1, 1), begin(0, 1), row(0), begin(3, 2), mul(3, 3), power(2, 7), coin(17, 4), row(17),
+MIXED = joined([mul(1, 1), size(), begin(0, 1), row(0), begin(3, 2), mul(3, 3), power(2, 7), coin(17, 4), row(17),
                 count([0, 3], [1, 0]), odds([1, 2, 5]), term_all(7, [3, 3, 2]), begin(6, 2), term_all(7, [16]),
-                term_all(-7, [15]), begin(2, 2, 1), term_all(1, [0]), row(14)])
-MIXED_ANSWERS = [[-11], [-22], [-11], [64], [5], [1], [0], [8, 1, 1, 1, 1, 0, 0, 0, 0], [16, 64], [32, 64], [0], [-22],
-                 [-22], [1], [16], [0], [4, 1, 1, 0, 1]]
+                term_all(-7, [15]), term_many(2, 1, [0, 1]), want(1), best(), means(), chances(1), drop(0), chances(0),
+                worth(64), worth(17), size(), begin(2, 2, 1), size(), want(0), term_all(1, [0]), row(14)])
+MIXED_ANSWERS = [[-11], [-11], [-22], [-11], [64], [5], [1], [0], [8, 1, 1, 1, 1, 0, 0, 0, 0], [16, 64], [32, 64], [0],
+                 [-22], [-22], [1], [2], [0], [9, 2], [1, -2, 1, -2, 1], [1, 1, 2, 1, 2], [2], [1, 1, 2, 1, 2], [-2],
+                 [0, 2], [8, 64, 2], [16], [4, 16, 0], [0], [0], [4, 1, 1, 0, 1]]
 
 
 class BeforeBeginTest(unittest.TestCase):
@@ -33,8 +35,9 @@ class BeforeBeginTest(unittest.TestCase):
                 self.assertEqual(ask(begin(7, 1), call, begin(2, 2, 2), call), [[-22], [-11], [-22], [-11]])
 
     def test_nothing_of_it_is_kept(self):
-        told = ask(*[term_all(1, [0])] * 13, begin(1, 1), term_all(1, [0]), row(1))
-        self.assertEqual(told, [[-11]] * 13 + [[2], [0], [2, 1, 1]])
+        told = ask(*[term_all(1, [0])] * 13, want(1), term_many(1, 0, [0]), begin(1, 1), want(0), size(),
+                   term_all(1, [0]), row(1))
+        self.assertEqual(told, [[-11]] * 15 + [[2], [0], [2, 2, 0], [0], [2, 1, 1]])
 
 
 class LineTest(unittest.TestCase):
@@ -58,13 +61,26 @@ class LineTest(unittest.TestCase):
         self.assertEqual(ask(begin(6, 1), *[longest] * 58, row(1)), [[64]] + [[-22]] * 58 + [[64] + [1] * 64])
 
     def test_refused_calls_change_nothing(self):
-        good = [row(9), coin(9, 1), mul(3, 5), power(3, 5), count([0, 3], [1, 0]), odds([1, 2, 5])]
+        terms = [term_all(5, [3, 6]), term_many(-3, 2, [0, 1, 4]), term_all(2, [0]), want(1)]
+        good = [row(9), coin(9, 1), mul(3, 5), power(3, 5), count([0, 3], [1, 0]), odds([1, 2, 5]), size(), means(),
+                best(), worth(9), chances(0), chances(1), chances(2)]
         refused = [begin(9, 9), mul(8, 1), power(1, 101), coin(64, 0), coin(0, 8), row(-1), count([0], [2]),
-                   odds([8]), term_all(1, [])]
-        told = ask(begin(3, 2), *good, *refused, *good)
-        self.assertEqual([len(answer) for answer in told[7:16]], [1] * 9)
-        self.assertTrue(all(answer[0] < 0 for answer in told[7:16]))
-        self.assertEqual(told[1:7], told[16:])
+                   odds([8]), term_all(1, []), term_all(101, [0]), term_many(101, 0, [0]), term_many(1, 21, [0]),
+                   term_many(1, 0, []), drop(3), drop(-1), want(2), want(-1), worth(64), chances(3)]
+        told = ask(begin(3, 2), *terms, *good, *refused, *good, want(1))
+        first, between, second = told[5:18], told[18:37], told[37:50]
+        self.assertEqual([len(answer) for answer in between], [1] * 19)
+        self.assertTrue(all(answer[0] < 0 for answer in between))
+        self.assertEqual(first, second)
+        self.assertEqual(told[50:], [[1]])
+
+    def test_looking_changes_nothing(self):
+        terms = [term_all(5, [3, 6]), term_many(-3, 2, [0, 1, 4]), want(1)]
+        looks = [size(), means(), best(), worth(9), chances(0), chances(1), row(9), odds([0, 1])]
+        told = ask(begin(3, 2), *terms, *looks, *looks, *reversed(looks), want(1))
+        self.assertEqual(told[4:12], told[12:20])
+        self.assertEqual(told[4:12], told[27:19:-1])
+        self.assertEqual(told[28], [1])
 
     def test_handed_in_is_unchanged(self):
         calls = list(MIXED)
@@ -83,7 +99,8 @@ class LineTest(unittest.TestCase):
 
     def test_twice_the_same_and_nothing_kept(self):
         first = answers(MIXED)
-        self.assertEqual(ask(row(0), term_all(1, [0])), [[-11], [-11]])
+        self.assertEqual(ask(row(0), term_all(1, [0]), begin(2, 2), size(), want(0)),
+                         [[-11], [-11], [16], [4, 16, 0], [0]])
         second = answers(MIXED)
         self.assertEqual(first, second)
         self.assertIsNot(first, second)
@@ -104,63 +121,11 @@ class LineTest(unittest.TestCase):
         self.assertEqual((out.getvalue(), err.getvalue()), ("", ""))
 
 
-class Model:
-    """One object, told once more after the words of the document."""
-
-    def __init__(self):
-        self.begun = None
-        self.terms = 0
-
-    def rising(self, coins):
-        return all(0 <= i < self.size for i in coins) and all(a < b for a, b in zip(coins, coins[1:]))
-
-    def begin(self, m, k, f):
-        good = 1 <= m <= 6 and k >= 1 and m * k <= 10 and f in (0, 1) and not (f == 1 and (k != 2 or m > 4))
-        if not good:
-            return [-22]
-        self.begun, self.size, self.terms = (m, k, f), 2 ** m, 0
-        self.rows = plain.rows(m, k, f)
-        return [len(self.rows)]
-
-    def mul(self, x, y):
-        good = 0 <= x < self.size and 0 <= y < self.size
-        return [plain.product(self.begun[0], x, y)] if good else [-22]
-
-    def power(self, x, e):
-        return [plain.power(self.begun[0], x, e)] if 0 <= x < self.size and 0 <= e <= 100 else [-22]
-
-    def coin(self, s, i):
-        return [self.rows[s][i]] if 0 <= s < len(self.rows) and 0 <= i < self.size else [-2]
-
-    def row(self, s):
-        return [self.size] + self.rows[s] if 0 <= s < len(self.rows) else [-2]
-
-    def count(self, coins, lie):
-        if not self.rising(coins) or len(coins) != len(lie) or set(lie) - {0, 1}:
-            return [-22]
-        return [sum([row[i] for i in coins] == lie for row in self.rows), len(self.rows)]
-
-    def odds(self, coins):
-        if not self.rising(coins):
-            return [-22]
-        return [sum(sum(row[i] for i in coins) % 2 for row in self.rows), len(self.rows)]
-
-    def term_all(self, w, lie):
-        if not -100 <= w <= 100 or not 1 <= len(lie) <= 20 or not all(0 <= told < 2 * self.size for told in lie):
-            return [-22]
-        if self.terms == 12:
-            return [-28]
-        self.terms += 1
-        return [self.terms - 1]
-
-    def answer(self, name, *told):
-        if name != "begin" and self.begun is None:
-            return [-11]
-        return getattr(self, name)(*told)
-
-
 BUILDERS = {"begin": begin, "mul": mul, "power": power, "coin": coin, "row": row, "count": count, "odds": odds,
-            "term_all": term_all}
+            "term_all": term_all, "term_many": term_many, "drop": drop, "want": want, "means": means, "worth": worth,
+            "best": best, "chances": chances, "size": size}
+# Terms come more often, so that there are many of them to look at.
+NAMES = list(BUILDERS) + ["term_all", "term_many"] * 4 + ["chances", "means", "best"]
 
 
 def drawn_row(draw, top, most):
@@ -169,16 +134,23 @@ def drawn_row(draw, top, most):
     return [draw.randrange(-1, top + 2) for each in range(draw.randrange(most + 1))]
 
 
+def drawn_lie(draw, top):
+    if draw.random() < 0.8:
+        return [draw.randrange(2 * top) for each in range(draw.randrange(1, 5))]
+    return drawn_row(draw, 2 * top, 22)
+
+
 def drawn_call(draw):
-    name = draw.choice(["begin", "mul", "power", "coin", "row", "count", "odds", "term_all", "term_all", "term_all"])
-    top = draw.choice([2, 4, 8, 16, 32, 64])
+    name = draw.choice(NAMES)
+    top = draw.choice([2, 4, 4, 8, 8, 16, 32, 64])
+    weight = draw.choice([-101, -100, -9, -1, 0, 1, 7, 7, 100, 101])
     if name == "begin":
         return name, draw.choice([draw.randrange(0, 8), 2, 3]), draw.randrange(0, 5), draw.choice([0, 0, 1, 1, 2])
     if name == "power":
         return name, draw.randrange(-1, top + 1), draw.randrange(-1, 102)
     if name in ("mul", "coin"):
         return name, draw.randrange(-1, top + 1), draw.randrange(-1, top + 1)
-    if name == "row":
+    if name in ("row", "worth"):
         return name, draw.randrange(-1, top * top)
     if name == "odds":
         return name, drawn_row(draw, top, 6)
@@ -186,7 +158,15 @@ def drawn_call(draw):
         coins = drawn_row(draw, top, 4)
         lie = [draw.choice([0, 0, 0, 1, 1, 1, 2, -1]) for each in range(len(coins) + draw.choice([0, 0, 0, 0, 1]))]
         return name, coins, lie
-    return name, draw.choice([-101, -100, 0, 7, 100, 101]), drawn_row(draw, top, 22)
+    if name == "term_all":
+        return name, weight, drawn_lie(draw, top)
+    if name == "term_many":
+        return name, weight, draw.choice([-1, 0, 1, 1, 2, 2, 3, 4, 20, 21]), drawn_row(draw, top, 8)
+    if name in ("drop", "chances"):
+        return name, draw.randrange(-1, 14 if name == "drop" else 6)
+    if name == "want":
+        return name, draw.choice([-1, 0, 1, 1, 2])
+    return (name,)
 
 
 class DrawnLinesTest(unittest.TestCase):
